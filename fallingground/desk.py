@@ -1,13 +1,14 @@
 """The calls on a ground. An answer is a list: 0 and what is answered, or a refusal alone.
 
-The refusals: -1 a cell that is not in the ground, -2 a number that is not in its range,
+The refusals: -1 a place that is not in the ground, -2 a number that is not in its range,
 -3 water that is not there or has no room, -4 a ground that does not come to rest in time.
 """
 
 from fallingground.ground import AIR, WOOD, Ground
 from fallingground.layout import fits
+from fallingground.light import SKY_LIGHT, lights, trail_from
 from fallingground.texts import read_text, text_of, what_is_wrong
-from fallingground.ticks import behind_ticks
+from fallingground.ticks import behind_ticks, loose_cells
 
 TEXT = 0
 
@@ -98,6 +99,75 @@ def answer_settle(ground, numbers):
     return [0, made]
 
 
+def answer_cell(ground, numbers):
+    """Tell what is in a cell, and its light."""
+    x, y, z = numbers
+    cell = ground.layout.cell_at(x, y, z)
+    if cell is None:
+        return [-1]
+    light = lights(ground.layout, ground.materials)
+    return [0, ground.materials[cell], ground.water[cell], light[cell]]
+
+
+def answer_light(ground, numbers):
+    """Tell the light of a layer's cells."""
+    first = ground.layout.cell_at(0, 0, numbers[0])
+    if first is None:
+        return [-1]
+    light = lights(ground.layout, ground.materials)
+    return [0] + light[first:first + ground.layout.layer_size]
+
+
+def counted_places(layout, cells):
+    """How many cells these are, and each one's x, y, z."""
+    told = [len(cells)]
+    for cell in cells:
+        told.extend(layout.place_of(cell))
+    return told
+
+
+def answer_trail(ground, numbers):
+    """Tell the trail of a cell."""
+    x, y, z = numbers
+    cell = ground.layout.cell_at(x, y, z)
+    if cell is None:
+        return [-1]
+    return [0] + counted_places(ground.layout, trail_from(ground.layout, ground.materials, cell))
+
+
+def answer_count(ground, numbers):
+    """Tell the ticks made, all water, and how many cells there are of each material."""
+    amounts = [ground.materials.count(material) for material in range(AIR, WOOD + 1)]
+    return [0, ground.ticks, sum(ground.water)] + amounts
+
+
+def answer_held(ground, numbers):
+    """Tell where the wood is that is not held."""
+    # All wood that is loose, and none else, is not held.
+    loose = loose_cells(ground.layout, ground.materials)
+    wood = [cell for cell in loose if ground.materials[cell] == WOOD]
+    return [0] + counted_places(ground.layout, wood)
+
+
+def answer_dark(ground, numbers):
+    """Tell how many air cells have so little light."""
+    most = numbers[0]
+    if not 0 <= most <= SKY_LIGHT:
+        return [-2]
+    light = lights(ground.layout, ground.materials)
+    air = [cell for cell, material in enumerate(ground.materials) if material == AIR]
+    return [0, len([cell for cell in air if light[cell] <= most])]
+
+
+def answer_deep(ground, numbers):
+    """Tell the water of the cells over one another."""
+    x, y = numbers
+    lowest = ground.layout.cell_at(x, y, 0)
+    if lowest is None:
+        return [-1]
+    return [0] + ground.water[lowest::ground.layout.layer_size]
+
+
 # For each call but text: how many numbers it has, and what answers it.
 CALLS = {
     1: (3, answer_empty),
@@ -107,6 +177,13 @@ CALLS = {
     5: (4, answer_drain),
     6: (1, answer_tick),
     7: (1, answer_settle),
+    8: (3, answer_cell),
+    9: (1, answer_light),
+    10: (3, answer_trail),
+    11: (0, answer_count),
+    12: (0, answer_held),
+    13: (1, answer_dark),
+    14: (2, answer_deep),
 }
 
 

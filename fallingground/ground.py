@@ -2,10 +2,11 @@
 
 from fallingground.layout import Layout
 
-# Lamps are 3 and glass is 4: so far nothing happens to them that does not to all solid cells.
 AIR = 0
 STONE = 1
 SAND = 2
+LAMP = 3
+GLASS = 4
 WOOD = 5
 
 FULL = 8

@@ -19,6 +19,7 @@ class Layout:
 
     def __init__(self, sides):
         self.sides = sides
+        self.layer_size = sides[0] * sides[1]
         self.below = []
         self.beside = []
         self.about = []
@@ -33,6 +34,12 @@ class Layout:
         if 0 <= x < width and 0 <= y < depth and 0 <= z < height:
             return (z * depth + y) * width + x
         return None
+
+    def place_of(self, cell):
+        """The cell's x, y and z."""
+        width = self.sides[0]
+        in_layer = cell % self.layer_size
+        return [in_layer % width, in_layer // width, cell // self.layer_size]
 
     def cells_among(self, places):
         """The numbers of those of the places that are in the ground."""

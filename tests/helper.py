@@ -1,4 +1,4 @@
-"""What the tests share: calls by name, answers split, and a second working out of ticks."""
+"""What the tests share: calls by name, answers split, and a second working out of ticks and light."""
 
 import random
 
@@ -47,6 +47,30 @@ def tick(n):
 
 def settle(n):
     return [7, n]
+
+
+def cell(x, y, z):
+    return [8, x, y, z]
+
+
+def light(z):
+    return [9, z]
+
+
+def trail(x, y, z):
+    return [10, x, y, z]
+
+
+COUNT = [11]
+HELD = [12]
+
+
+def dark(n):
+    return [13, n]
+
+
+def deep(x, y):
+    return [14, x, y]
 
 
 def run(*calls):
@@ -113,6 +137,11 @@ class Model:
         found = [(x - 1, y, z), (x + 1, y, z), (x, y - 1, z), (x, y + 1, z)]
         return [near for near in found if near in self.cells]
 
+    def about(self, place):
+        x, y, z = place
+        found = [(x, y, z - 1)] + self.beside(place) + [(x, y, z + 1)]
+        return [near for near in found if near in self.cells]
+
     def held(self):
         wood = [place for place in self.order if self.cells[place][0] == 5]
         far = {}
@@ -122,8 +151,7 @@ class Model:
                 far[x, y, z] = 0
         for steps in range(1, 5):
             for x, y, z in wood:
-                about = self.beside((x, y, z)) + [(x, y, z - 1), (x, y, z + 1)]
-                if (x, y, z) not in far and any(far.get(near) == steps - 1 for near in about):
+                if (x, y, z) not in far and any(far.get(near) == steps - 1 for near in self.about((x, y, z))):
                     far[x, y, z] = steps
         return far
 
@@ -156,3 +184,36 @@ class Model:
         quiet = self.cells == kept
         self.cells = kept
         return quiet
+
+    def is_clear(self, place):
+        return self.cells[place][0] in (0, 3, 4)
+
+    def own_light(self, place):
+        x, y, z = place
+        if not self.is_clear(place):
+            return 0
+        if all(self.is_clear((x, y, above)) for above in range(z + 1, self.order[-1][2] + 1)):
+            return 15
+        return 14 if self.cells[place][0] == 3 else 0
+
+    def light(self):
+        """The least numbers: from each cell's own light on, till no cell has to have more."""
+        found = {place: self.own_light(place) for place in self.order}
+        grows = True
+        while grows:
+            grows = False
+            for place in self.order:
+                due = max([found[near] - 1 for near in self.about(place)], default=0)
+                if self.is_clear(place) and due > found[place]:
+                    found[place] = due
+                    grows = True
+        return found
+
+    def trail(self, place, found):
+        """The trail of this place where each has the light found."""
+        if found[place] == 0:
+            return []
+        if found[place] == self.own_light(place):
+            return [place]
+        brighter = [near for near in self.about(place) if found[near] == found[place] + 1]
+        return [place] + self.trail(brighter[0], found)

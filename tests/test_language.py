@@ -25,6 +25,9 @@ NamedTuple TypedDict TYPE_CHECKING abstractmethod""".split()
 NOT_NAMES = """register mro elements open input print eval exec compile vars id dir getattr setattr hasattr super help
 globals locals hash map filter next iter object bytes float format callable property""".split()
 
+WALKS = "range zip enumerate reversed items keys values".split()
+WALKERS = "list tuple dict sorted sum any all enumerate zip min max".split()
+
 
 def files():
     return sorted(path for path in PACKAGE.rglob("*") if path.is_file() and "__pycache__" not in path.parts)
@@ -43,6 +46,13 @@ def bound_names(tree):
             yield node.arg
         elif isinstance(node, (ast.FunctionDef, ast.ClassDef, ast.alias)):
             yield node.name
+
+
+def called(node):
+    """The name of what is called, None where nothing is."""
+    if isinstance(node, ast.Call):
+        return node.func.id if isinstance(node.func, ast.Name) else getattr(node.func, "attr", None)
+    return None
 
 
 class Files(unittest.TestCase):
@@ -106,3 +116,21 @@ class Code(unittest.TestCase):
                     self.assertIn(node.id, own | set(OF_PYTHON) | {"self"}, path)
                 if isinstance(node, ast.Call) and isinstance(node.func, ast.Attribute):
                     self.assertIn(node.func.attr, methods, path)
+
+    def test_walks_are_walked_at_once(self):
+        for path, tree in trees():
+            walked = [node.iter for node in ast.walk(tree) if isinstance(node, (ast.For, ast.comprehension))]
+            walked += [node.args[0] for node in ast.walk(tree) if called(node) in WALKERS and node.args]
+            for node in ast.walk(tree):
+                if called(node) in WALKS:
+                    self.assertIn(node, walked, (path, node.lineno))
+
+    def test_nothing_within_a_function_is_called_like_an_import_or_a_class(self):
+        for path, tree in trees():
+            tops = [name for part in tree.body if isinstance(part, (ast.ImportFrom, ast.ClassDef))
+                    for name in bound_names(part) if isinstance(part, ast.ImportFrom) or name == part.name]
+            self.assertEqual(len(tops), len(set(tops)), path)
+            for node in ast.walk(tree):
+                if isinstance(node, ast.FunctionDef):
+                    inner = [name for part in node.body + [node.args] for name in bound_names(part)]
+                    self.assertFalse(set(tops) & set(inner), (path, node.name))
